@@ -1,0 +1,1 @@
+"""Shelfbook: a shop's shelf with orders, part deliveries, refusals and returns."""
