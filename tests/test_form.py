@@ -24,7 +24,7 @@ class FormTest(unittest.TestCase):
 
     def test_the_package_is_there(self):
         names = [name for name, tree in package_trees()]
-        for name in ("__init__.py", "deals.py", "errors.py"):
+        for name in ("__init__.py", "day.py", "deals.py", "errors.py", "shop.py"):
             self.assertIn(name, names)
 
     def test_only_own_modules_are_imported(self):
